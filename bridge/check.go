@@ -1,0 +1,63 @@
+package bridge
+
+import "swarf/api"
+
+// checkRange returns the error of a range within the bounds low and high.
+func checkRange(r api.Range, low, high int) api.Errno {
+	if r.Min < low || r.Min > high || r.Max < low || r.Max > high {
+		return api.ErrValue
+	}
+	if r.Min > r.Max {
+		return api.ErrOrder
+	}
+	return api.OK
+}
+
+// checkEvent returns the first error of an event on a bridge with that step.
+func checkEvent(step int, event api.Event) api.Errno {
+	if event.Kind != api.EventEmpty && event.Kind != api.EventTest && event.Kind != api.EventLoad {
+		return api.ErrKind
+	}
+	if event.Shown < -api.MaxLoad || event.Shown > api.MaxLoad {
+		return api.ErrValue
+	}
+	if event.Shown%step != 0 {
+		return api.ErrForm
+	}
+	if event.Load < 0 || event.Load > api.MaxLoad {
+		return api.ErrValue
+	}
+	if event.Load != 0 && event.Kind != api.EventTest {
+		return api.ErrForm
+	}
+	return checkRange(event.Change, -api.MaxZero, api.MaxZero)
+}
+
+// checkAxles returns the first error of the events at which the axles of a lorry were weighed.
+func checkAxles(l api.Log, axles []int) api.Errno {
+	if len(axles) < 1 {
+		return api.ErrFew
+	}
+	if len(axles) > api.MaxAxles {
+		return api.ErrMany
+	}
+	before := -1
+	for _, event := range axles {
+		if event < 0 || event >= len(l.Events) {
+			return api.ErrUnknown
+		}
+		if l.Events[event].Kind != api.EventLoad {
+			return api.ErrKind
+		}
+		if event <= before {
+			return api.ErrOrder
+		}
+		before = event
+	}
+	return api.OK
+}
+
+// isSeat tells whether seat is one of the kinds of seats.
+func isSeat(seat int) bool {
+	return seat == api.SeatEmpty || seat == api.SeatTaken || seat == api.SeatUnsure
+}
