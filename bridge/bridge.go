@@ -1,14 +1,17 @@
 // Package bridge is about a weighbridge whose zero wanders, and tells what a lorry that was weighed on it may weigh.
 package bridge
 
-import "swarf/api"
+import (
+	"swarf/api"
+	"swarf/span"
+)
 
 // Check returns the first error of a log.
 func Check(l api.Log) api.Errno {
 	if l.Step < 1 || l.Step > api.MaxStep {
 		return api.ErrValue
 	}
-	if e := checkRange(l.Zero, -api.MaxZero, api.MaxZero); e != api.OK {
+	if e := span.Check(l.Zero, -api.MaxZero, api.MaxZero); e != api.OK {
 		return e
 	}
 	if len(l.Events) > api.MaxEvents {
@@ -62,7 +65,7 @@ func CheckSlip(l api.Log, s api.Slip) api.Errno {
 	if !isSeat(s.FullSeat) || !isSeat(s.BareSeat) {
 		return api.ErrKind
 	}
-	return checkRange(s.Driver, 0, api.MaxDriver)
+	return span.Check(s.Driver, 0, api.MaxDriver)
 }
 
 // Net returns the least and the greatest net weight of a slip.
@@ -74,7 +77,7 @@ func Net(l api.Log, s api.Slip) (api.Range, api.Errno) {
 	if e != api.OK {
 		return api.Range{}, e
 	}
-	return plus(netLoads(l, known, weigher(l, s)), driverShare(s)), api.OK
+	return span.Plus(netLoads(l, known, weigher(l, s)), driverShare(s)), api.OK
 }
 
 // Paid returns the least and the greatest weight that is paid when dirt thousandths are taken off.
@@ -82,7 +85,7 @@ func Paid(l api.Log, s api.Slip, dirt api.Range) (api.Range, api.Errno) {
 	if e := CheckSlip(l, s); e != api.OK {
 		return api.Range{}, e
 	}
-	if e := checkRange(dirt, 0, api.MaxDirt); e != api.OK {
+	if e := span.Check(dirt, 0, api.MaxDirt); e != api.OK {
 		return api.Range{}, e
 	}
 	net, e := Net(l, s)

@@ -1,17 +1,9 @@
 package bridge
 
-import "swarf/api"
-
-// checkRange returns the error of a range within the bounds low and high.
-func checkRange(r api.Range, low, high int) api.Errno {
-	if r.Min < low || r.Min > high || r.Max < low || r.Max > high {
-		return api.ErrValue
-	}
-	if r.Min > r.Max {
-		return api.ErrOrder
-	}
-	return api.OK
-}
+import (
+	"swarf/api"
+	"swarf/span"
+)
 
 // checkEvent returns the first error of an event on a bridge with that step.
 func checkEvent(step int, event api.Event) api.Errno {
@@ -30,7 +22,7 @@ func checkEvent(step int, event api.Event) api.Errno {
 	if event.Load != 0 && event.Kind != api.EventTest {
 		return api.ErrForm
 	}
-	return checkRange(event.Change, -api.MaxZero, api.MaxZero)
+	return span.Check(event.Change, -api.MaxZero, api.MaxZero)
 }
 
 // checkAxles returns the first error of the events at which the axles of a lorry were weighed.

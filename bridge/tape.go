@@ -1,10 +1,8 @@
 package bridge
 
 import (
-	"strconv"
-	"strings"
-
 	"swarf/api"
+	"swarf/rows"
 )
 
 // The kinds of rows that are not events; those of events have the kind of the event.
@@ -24,7 +22,7 @@ var rowKinds = [...]rowKind{
 	{"empty", api.EventEmpty, 3},
 	{"test", api.EventTest, 4},
 	{"load", api.EventLoad, 3},
-	{"end", endRow, 1},
+	{rows.End, endRow, 1},
 }
 
 // maxNumber is the greatest number of a tape: it has five digits.
@@ -32,16 +30,13 @@ const maxNumber = 99999
 
 // writeRow returns the row of that kind with these numbers.
 func writeRow(kind int, numbers ...int) string {
-	var words []string
+	text := ""
 	for _, row := range rowKinds {
 		if row.kind == kind {
-			words = append(words, row.word)
+			text = rows.Write(row.word, numbers...)
 		}
 	}
-	for _, n := range numbers {
-		words = append(words, strconv.Itoa(n))
-	}
-	return strings.Join(words, " ") + "\n"
+	return text
 }
 
 // writeEvent returns the row of an event.
@@ -58,13 +53,11 @@ func Write(l api.Log) (string, api.Errno) {
 	if e := Check(l); e != api.OK {
 		return "", e
 	}
-	var tape strings.Builder
-	tape.WriteString(writeRow(headRow, l.Step, l.Zero.Min, l.Zero.Max))
+	tape := writeRow(headRow, l.Step, l.Zero.Min, l.Zero.Max)
 	for _, event := range l.Events {
-		tape.WriteString(writeEvent(event))
+		tape += writeEvent(event)
 	}
-	tape.WriteString(writeRow(endRow, len(l.Events)))
-	return tape.String(), api.OK
+	return tape + writeRow(endRow, len(l.Events)), api.OK
 }
 
 // Read returns the log of a tape, or the number of the first row that has another form.
@@ -72,7 +65,8 @@ func Read(text string) (l api.Log, row int, e api.Errno) {
 	if len(text) > api.MaxTape {
 		return api.Log{}, 0, api.ErrLong
 	}
-	log, bad := readRows(text)
+	var log api.Log
+	bad := rows.Read(text, api.Range{Min: -maxNumber, Max: maxNumber}, func(next rows.Row) bool { return readRow(&log, next) })
 	if bad != 0 {
 		return api.Log{}, bad, api.ErrForm
 	}
@@ -82,60 +76,31 @@ func Read(text string) (l api.Log, row int, e api.Errno) {
 	return log, 0, api.OK
 }
 
-// readRows returns the log of a tape, and the number of the first row that has another form, or 0.
-func readRows(text string) (l api.Log, bad int) {
-	for row := 1; ; row++ {
-		line, rest, ended := strings.Cut(text, "\n")
-		kind, numbers, ok := readRow(line)
-		if !ended || !ok || (kind == headRow) != (row == 1) {
-			return l, row
-		}
-		switch kind {
-		case headRow:
-			l.Step, l.Zero = numbers[0], api.Range{Min: numbers[1], Max: numbers[2]}
-		case endRow:
-			return l, badEnd(row, numbers[0] == len(l.Events), rest)
-		default:
-			l.Events = append(l.Events, eventOf(kind, numbers))
-		}
-		text = rest
+// readRow adds to a log what a row says, and tells whether the row is one that may come there.
+func readRow(l *api.Log, row rows.Row) bool {
+	kind, ok := kindOf(row)
+	if !ok || (kind == headRow) != (row.At == 1) {
+		return false
 	}
+	switch kind {
+	case headRow:
+		l.Step, l.Zero = row.Numbers[0], api.Range{Min: row.Numbers[1], Max: row.Numbers[2]}
+	case endRow:
+		return row.Numbers[0] == len(l.Events)
+	default:
+		l.Events = append(l.Events, eventOf(kind, row.Numbers))
+	}
+	return true
 }
 
-// badEnd returns the number of the first row from the row "end" on that has another form, or 0.
-func badEnd(row int, counted bool, rest string) int {
-	if !counted {
-		return row
-	}
-	if rest != "" {
-		return row + 1
-	}
-	return 0
-}
-
-// readRow returns the kind and the numbers of a row, if it is one.
-func readRow(line string) (kind int, numbers []int, ok bool) {
-	words := strings.Split(line, " ")
-	for _, row := range rowKinds {
-		if row.word == words[0] && row.numbers == len(words)-1 {
-			numbers, ok = readNumbers(words[1:])
-			return row.kind, numbers, ok
+// kindOf returns the kind of a row, if its word and its numbers are those of one.
+func kindOf(row rows.Row) (kind int, ok bool) {
+	for _, known := range rowKinds {
+		if row.Is(known.word, known.numbers) {
+			return known.kind, true
 		}
 	}
-	return 0, nil, false
-}
-
-// readNumbers returns the numbers that words are, if each one is written as a tape has it.
-func readNumbers(words []string) ([]int, bool) {
-	var list []int
-	for _, word := range words {
-		n, err := strconv.Atoi(word)
-		if err != nil || n < -maxNumber || n > maxNumber || strconv.Itoa(n) != word {
-			return nil, false
-		}
-		list = append(list, n)
-	}
-	return list, true
+	return 0, false
 }
 
 // eventOf returns the event that a row of that kind with these numbers is.

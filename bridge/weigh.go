@@ -1,6 +1,9 @@
 package bridge
 
-import "swarf/api"
+import (
+	"swarf/api"
+	"swarf/span"
+)
 
 // tally has for each zero, from -MaxZero on, what truths with it weigh at least and at most.
 type tally [2*api.MaxZero + 1]api.Range
@@ -36,12 +39,12 @@ func weigher(l api.Log, s api.Slip) func(event, zero int) api.Range {
 	wanted := wantedEvents(s)
 	return func(event, zero int) api.Range {
 		total := onBridge(l.Step, l.Events[event])
-		load := meet(plus(total, api.Range{Min: -zero, Max: -zero}), loads(l.Events[event]))
+		load := span.Meet(span.Minus(total, span.Just(zero)), loads(l.Events[event]))
 		switch wanted[event] {
 		case 1:
 			return load
 		case -1:
-			return api.Range{Min: -load.Max, Max: -load.Min}
+			return span.Minus(span.Just(0), load)
 		}
 		return api.Range{}
 	}
@@ -60,7 +63,7 @@ func weightsFrom(l api.Log, known zeros, weigh func(event, zero int) api.Range) 
 					rest = cover(rest, list[event+1][place(next)])
 				}
 			}
-			list[event][place(zero)] = plus(weigh(event, zero), rest)
+			list[event][place(zero)] = span.Plus(weigh(event, zero), rest)
 		}
 	}
 	return list
@@ -74,7 +77,7 @@ func weightsBefore(l api.Log, known zeros, weigh func(event, zero int) api.Range
 			list[event+1][place(next)] = nothing()
 		}
 		for zero := range numbers(known[event]) {
-			soFar := plus(list[event][place(zero)], weigh(event, zero))
+			soFar := span.Plus(list[event][place(zero)], weigh(event, zero))
 			for next := range follow(l, known, event, zero) {
 				list[event+1][place(next)] = cover(list[event+1][place(next)], soFar)
 			}
@@ -99,7 +102,7 @@ func widths(l api.Log, known zeros, weigh func(event, zero int) api.Range) []int
 	list := make([]int, len(l.Events))
 	for event := range l.Events {
 		for zero := range numbers(known[event]) {
-			net := plus(earlier[event][place(zero)], later[event][place(zero)])
+			net := span.Plus(earlier[event][place(zero)], later[event][place(zero)])
 			list[event] = max(list[event], spread(net))
 		}
 	}
@@ -110,7 +113,7 @@ func widths(l api.Log, known zeros, weigh func(event, zero int) api.Range) []int
 func drivers(seat int) api.Range {
 	switch seat {
 	case api.SeatTaken:
-		return api.Range{Min: 1, Max: 1}
+		return span.Just(1)
 	case api.SeatUnsure:
 		return api.Range{Min: 0, Max: 1}
 	}
@@ -119,8 +122,7 @@ func drivers(seat int) api.Range {
 
 // driverShare returns what the driver adds to the net weight. The driver weighs the same both times, so only how often the driver counts matters, not when.
 func driverShare(s api.Slip) api.Range {
-	full, bare := drivers(s.FullSeat), drivers(s.BareSeat)
-	times := api.Range{Min: bare.Min - full.Max, Max: bare.Max - full.Min}
+	times := span.Minus(drivers(s.BareSeat), drivers(s.FullSeat))
 	return api.Range{
 		Min: min(times.Min*s.Driver.Min, times.Min*s.Driver.Max),
 		Max: max(times.Max*s.Driver.Min, times.Max*s.Driver.Max),

@@ -1,6 +1,9 @@
 package mix
 
-import "swarf/api"
+import (
+	"swarf/api"
+	"swarf/span"
+)
 
 // maxFractions is how many fractions a load has at most.
 const maxFractions = 2*api.MaxSplits + 1
@@ -17,15 +20,7 @@ func isFraction(l api.Load, fraction int) bool {
 func isKilos(n int) bool { return n >= 0 && n <= api.MaxKilos }
 
 // checkKilos returns the error of a range of kilograms.
-func checkKilos(r api.Range) api.Errno {
-	if !isKilos(r.Min) || !isKilos(r.Max) {
-		return api.ErrValue
-	}
-	if r.Min > r.Max {
-		return api.ErrOrder
-	}
-	return api.OK
-}
+func checkKilos(r api.Range) api.Errno { return span.Check(r, 0, api.MaxKilos) }
 
 // checkStuffs returns the first error of the materials of a load.
 func checkStuffs(stuffs []api.Range) api.Errno {

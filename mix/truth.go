@@ -1,6 +1,9 @@
 package mix
 
-import "swarf/api"
+import (
+	"swarf/api"
+	"swarf/span"
+)
 
 // A truth of a load is a flow in which nothing gets lost. What a fraction weighs flows to its place from that of the
 // fraction of which it was made, or from outside. From a fraction that was not split each material flows on by itself,
@@ -54,8 +57,7 @@ func (t tree) stuffPlace(fraction, stuff int) int {
 func joined(ranges ...api.Range) api.Range {
 	var sum api.Range
 	for _, r := range ranges {
-		sum.Min += r.Min
-		sum.Max += r.Max
+		sum = span.Plus(sum, r)
 	}
 	return sum
 }
