@@ -37,7 +37,7 @@ func Read(text string, bounds api.Range, take func(Row) bool) int {
 	for at := 1; ; at++ {
 		line, rest, isEnded := strings.Cut(text, "\n")
 		words := strings.Split(line, " ")
-		numbers, ok := readNumbers(words[1:], bounds)
+		numbers, ok := Numbers(words[1:], bounds)
 		if !isEnded || !ok || !take(Row{At: at, Word: words[0], Numbers: numbers}) {
 			return at
 		}
@@ -56,8 +56,8 @@ func afterEnd(at int, rest string) int {
 	return 0
 }
 
-// readNumbers returns the numbers that words are, if all are written as Write does, and within the bounds.
-func readNumbers(words []string, bounds api.Range) ([]int, bool) {
+// Numbers returns the numbers that words are, if all are written as Write does, and within the bounds.
+func Numbers(words []string, bounds api.Range) ([]int, bool) {
 	var list []int
 	for _, word := range words {
 		n, err := strconv.Atoi(word)

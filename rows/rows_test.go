@@ -23,6 +23,27 @@ func TestIs(t *testing.T) {
 	}
 }
 
+// TestNumbers: words that are numbers within the bounds -5..99, and words of which one is not.
+func TestNumbers(t *testing.T) {
+	for _, c := range []struct {
+		words []string
+		want  []int
+		ok    bool
+	}{
+		{nil, nil, true},
+		{[]string{"0", "-5", "99"}, []int{0, -5, 99}, true},
+		{[]string{"0", "-6"}, nil, false},
+		{[]string{"100", "0"}, nil, false},
+		{[]string{""}, nil, false},
+		{[]string{"00"}, nil, false},
+		{[]string{"+1"}, nil, false},
+	} {
+		if list, ok := rows.Numbers(c.words, api.Range{Min: -5, Max: 99}); !slices.Equal(list, c.want) || ok != c.ok {
+			t.Errorf("%q: %v %v", c.words, list, ok)
+		}
+	}
+}
+
 // isTaken takes all rows but those with the word "no".
 func isTaken(row rows.Row) bool { return row.Word != "no" }
 
