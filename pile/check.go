@@ -5,9 +5,6 @@ import (
 	"swarf/span"
 )
 
-// isWithin tells whether n is from low to high.
-func isWithin(n, low, high int) bool { return n >= low && n <= high }
-
 // checkSpots returns the first error of the spots of a ground.
 func checkSpots(spots []api.Spot) api.Errno {
 	if len(spots) < 1 {
@@ -17,8 +14,8 @@ func checkSpots(spots []api.Spot) api.Errno {
 		return api.ErrMany
 	}
 	for _, spot := range spots {
-		isPlace := isWithin(spot.X, 0, api.MaxReach) && isWithin(spot.Y, 0, api.MaxReach)
-		if !isPlace || !isWithin(spot.Area, 1, api.MaxArea) {
+		isPlace := span.IsWithin(spot.X, 0, api.MaxReach) && span.IsWithin(spot.Y, 0, api.MaxReach)
+		if !isPlace || !span.IsWithin(spot.Area, 1, api.MaxArea) {
 			return api.ErrValue
 		}
 	}
@@ -34,8 +31,8 @@ func checkSorts(sorts []api.Sort) api.Errno {
 		return api.ErrMany
 	}
 	for _, sort := range sorts {
-		isHeap := isWithin(sort.High, 1, api.MaxHigh) && isWithin(sort.Dense, 1, api.MaxDense)
-		if !isHeap || !isWithin(sort.Fire, 0, api.MaxFire) || !isWithin(sort.Age, 0, api.MaxHours) {
+		isHeap := span.IsWithin(sort.High, 1, api.MaxHigh) && span.IsWithin(sort.Dense, 1, api.MaxDense)
+		if !isHeap || !span.IsWithin(sort.Fire, 0, api.MaxFire) || !span.IsWithin(sort.Age, 0, api.MaxHours) {
 			return api.ErrValue
 		}
 	}
@@ -49,7 +46,7 @@ func checkActs(g api.Ground) api.Errno {
 	}
 	before := 0
 	for _, act := range g.Acts {
-		if !isWithin(act.Hour, 0, api.MaxHours) {
+		if !span.IsWithin(act.Hour, 0, api.MaxHours) {
 			return api.ErrValue
 		}
 		if act.Hour < before {
@@ -65,7 +62,7 @@ func checkActs(g api.Ground) api.Errno {
 
 // checkAct returns the first error of an act whose hour is right.
 func checkAct(g api.Ground, act api.Act) api.Errno {
-	if !isWithin(act.Spot, 0, len(g.Spots)-1) || !isWithin(act.Sort, 0, len(g.Sorts)-1) {
+	if !span.IsWithin(act.Spot, 0, len(g.Spots)-1) || !span.IsWithin(act.Sort, 0, len(g.Sorts)-1) {
 		return api.ErrUnknown
 	}
 	if act.Take && act.Sort != 0 {
@@ -79,16 +76,16 @@ func checkLoad(g api.Ground, hour, sort, mass int) api.Errno {
 	if e := Check(g); e != api.OK {
 		return e
 	}
-	if !isWithin(hour, 0, api.MaxHours) {
+	if !span.IsWithin(hour, 0, api.MaxHours) {
 		return api.ErrValue
 	}
 	if len(upTo(g.Acts, hour)) < len(g.Acts) {
 		return api.ErrOrder
 	}
-	if !isWithin(sort, 0, len(g.Sorts)-1) {
+	if !span.IsWithin(sort, 0, len(g.Sorts)-1) {
 		return api.ErrUnknown
 	}
-	if !isWithin(mass, 1, api.MaxMass) {
+	if !span.IsWithin(mass, 1, api.MaxMass) {
 		return api.ErrValue
 	}
 	return api.OK

@@ -3,9 +3,12 @@ package span
 
 import "swarf/api"
 
+// IsWithin tells whether n is from low to high.
+func IsWithin(n, low, high int) bool { return n >= low && n <= high }
+
 // Check returns the error of a range within the bounds low and high.
 func Check(r api.Range, low, high int) api.Errno {
-	if r.Min < low || r.Min > high || r.Max < low || r.Max > high {
+	if !IsWithin(r.Min, low, high) || !IsWithin(r.Max, low, high) {
 		return api.ErrValue
 	}
 	if r.Min > r.Max {

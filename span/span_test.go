@@ -11,6 +11,18 @@ import (
 // rng returns a range.
 func rng(low, high int) api.Range { return api.Range{Min: low, Max: high} }
 
+// TestIsWithin: numbers at both bounds and beyond them.
+func TestIsWithin(t *testing.T) {
+	for n, want := range map[int]bool{-4: false, -3: true, 0: true, 7: true, 8: false, math.MinInt: false, math.MaxInt: false} {
+		if span.IsWithin(n, -3, 7) != want {
+			t.Errorf("%d: not %v", n, want)
+		}
+	}
+	if span.IsWithin(0, 0, -1) {
+		t.Error("something is within nothing")
+	}
+}
+
 // TestCheck: both numbers within the bounds come before their order.
 func TestCheck(t *testing.T) {
 	for _, c := range []struct {
