@@ -27,11 +27,8 @@ func checkEvent(step int, event api.Event) api.Errno {
 
 // checkAxles returns the first error of the events at which the axles of a lorry were weighed.
 func checkAxles(l api.Log, axles []int) api.Errno {
-	if len(axles) < 1 {
-		return api.ErrFew
-	}
-	if len(axles) > api.MaxAxles {
-		return api.ErrMany
+	if e := span.Count(len(axles), 1, api.MaxAxles); e != api.OK {
+		return e
 	}
 	before := -1
 	for _, event := range axles {

@@ -57,11 +57,8 @@ func isThing(s api.Site, what, n int) bool {
 
 // checkGates returns the first error of the gates of a site.
 func checkGates(gates []api.Gate) api.Errno {
-	if len(gates) < 1 {
-		return api.ErrFew
-	}
-	if len(gates) > api.MaxGates {
-		return api.ErrMany
+	if e := span.Count(len(gates), 1, api.MaxGates); e != api.OK {
+		return e
 	}
 	for _, gate := range gates {
 		if e := span.Check(gate.Back, 0, api.MaxCount); e != api.OK {

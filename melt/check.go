@@ -23,11 +23,8 @@ func checkLimits(limits []int) api.Errno {
 
 // checkBins returns the first error of the bins of an order with so many metals.
 func checkBins(bins []api.Bin, metals int) api.Errno {
-	if len(bins) < 1 {
-		return api.ErrFew
-	}
-	if len(bins) > api.MaxBins {
-		return api.ErrMany
+	if e := span.Count(len(bins), 1, api.MaxBins); e != api.OK {
+		return e
 	}
 	for _, bin := range bins {
 		if e := checkBin(bin, metals); e != api.OK {

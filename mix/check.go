@@ -24,11 +24,8 @@ func checkKilos(r api.Range) api.Errno { return span.Check(r, 0, api.MaxKilos) }
 
 // checkStuffs returns the first error of the materials of a load.
 func checkStuffs(stuffs []api.Range) api.Errno {
-	if len(stuffs) < 1 {
-		return api.ErrFew
-	}
-	if len(stuffs) > api.MaxStuffs {
-		return api.ErrMany
+	if e := span.Count(len(stuffs), 1, api.MaxStuffs); e != api.OK {
+		return e
 	}
 	for _, stuff := range stuffs {
 		if e := checkKilos(stuff); e != api.OK {

@@ -7,11 +7,8 @@ import (
 
 // checkSpots returns the first error of the spots of a ground.
 func checkSpots(spots []api.Spot) api.Errno {
-	if len(spots) < 1 {
-		return api.ErrFew
-	}
-	if len(spots) > api.MaxSpots {
-		return api.ErrMany
+	if e := span.Count(len(spots), 1, api.MaxSpots); e != api.OK {
+		return e
 	}
 	for _, spot := range spots {
 		isPlace := span.IsWithin(spot.X, 0, api.MaxReach) && span.IsWithin(spot.Y, 0, api.MaxReach)
@@ -24,11 +21,8 @@ func checkSpots(spots []api.Spot) api.Errno {
 
 // checkSorts returns the first error of the sorts of a ground.
 func checkSorts(sorts []api.Sort) api.Errno {
-	if len(sorts) < 1 {
-		return api.ErrFew
-	}
-	if len(sorts) > api.MaxSorts {
-		return api.ErrMany
+	if e := span.Count(len(sorts), 1, api.MaxSorts); e != api.OK {
+		return e
 	}
 	for _, sort := range sorts {
 		isHeap := span.IsWithin(sort.High, 1, api.MaxHigh) && span.IsWithin(sort.Dense, 1, api.MaxDense)

@@ -1,10 +1,21 @@
-// Package span tells whether ranges of whole numbers are valid, and what follows from two of them.
+// Package span tells whether numbers, counts and ranges of whole numbers are valid, and what follows from two ranges.
 package span
 
 import "swarf/api"
 
 // IsWithin tells whether n is from low to high.
 func IsWithin(n, low, high int) bool { return n >= low && n <= high }
+
+// Count returns the error of a number of things, of which there have to be from low to high.
+func Count(n, low, high int) api.Errno {
+	if n < low {
+		return api.ErrFew
+	}
+	if n > high {
+		return api.ErrMany
+	}
+	return api.OK
+}
 
 // Check returns the error of a range within the bounds low and high.
 func Check(r api.Range, low, high int) api.Errno {

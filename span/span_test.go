@@ -23,6 +23,18 @@ func TestIsWithin(t *testing.T) {
 	}
 }
 
+// TestCount: from too few things to too many.
+func TestCount(t *testing.T) {
+	for n, want := range map[int]api.Errno{0: api.ErrFew, 1: api.ErrFew, 2: api.OK, 3: api.OK, 4: api.OK, 5: api.ErrMany, 99: api.ErrMany} {
+		if e := span.Count(n, 2, 4); e != want {
+			t.Errorf("%d: %d, not %d", n, e, want)
+		}
+	}
+	if span.Count(0, 0, 0) != api.OK || span.Count(1, 0, 0) != api.ErrMany {
+		t.Error("nothing is not nothing")
+	}
+}
+
 // TestCheck: both numbers within the bounds come before their order.
 func TestCheck(t *testing.T) {
 	for _, c := range []struct {

@@ -1,14 +1,14 @@
 package strip
 
-import "swarf/api"
+import (
+	"swarf/api"
+	"swarf/span"
+)
 
 // checkParts returns the first error of the parts of a car.
 func checkParts(parts []api.Part) api.Errno {
-	if len(parts) < 1 {
-		return api.ErrFew
-	}
-	if len(parts) > api.MaxParts {
-		return api.ErrMany
+	if e := span.Count(len(parts), 1, api.MaxParts); e != api.OK {
+		return e
 	}
 	for i, part := range parts {
 		if e := checkAscending(part.Before, i-1, api.ErrUnknown); e != api.OK {
