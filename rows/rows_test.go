@@ -112,3 +112,33 @@ func TestReadRows(t *testing.T) {
 		t.Error(bad, list)
 	}
 }
+
+// TestSeparator: rows with another separator are written and read as those with blanks, which then separate nothing.
+func TestSeparator(t *testing.T) {
+	const comma rows.Separator = ","
+	if a, b := comma.Write("load", 0, -12, 345), comma.Write(rows.End); a != "load,0,-12,345\n" || b != "end\n" {
+		t.Errorf("%q %q", a, b)
+	}
+	for _, c := range []struct {
+		text string
+		want int
+	}{
+		{"end\n", 0},
+		{"a,1,-5\nb\nend,99,0\n", 0},
+		{"no\nend\n", 1},
+		{"a 1\nno\nend\n", 2},
+		{"a,1 2\nend\n", 1},
+		{"a, 1\nend\n", 1},
+		{"a,,1\nend\n", 1},
+		{"a,1,\nend\n", 1},
+		{"a,100\nend\n", 1},
+		{"a,01\nend\n", 1},
+		{"a\nend 1\n", 3},
+		{"a\nend,1", 2},
+		{"a\nend,1\nx", 3},
+	} {
+		if bad := comma.Read(c.text, api.Range{Min: -5, Max: 99}, isTaken); bad != c.want {
+			t.Errorf("%q: %d, not %d", c.text, bad, c.want)
+		}
+	}
+}
