@@ -142,3 +142,46 @@ func TestSeparator(t *testing.T) {
 		}
 	}
 }
+
+// TestStyle: rows with one mark after their word, and another one between two numbers.
+func TestStyle(t *testing.T) {
+	style := rows.Style{AfterWord: "=", Between: ","}
+	if a, b, c := style.Write("load", 0, -12, 345), style.Write("tip", 6), style.Write(rows.End); a != "load=0,-12,345\n" || b != "tip=6\n" || c != "end\n" {
+		t.Errorf("%q %q %q", a, b, c)
+	}
+	for _, c := range []struct {
+		text string
+		want int
+	}{
+		{"end\n", 0},
+		{"a=1,-5\nb\nend=99,0\n", 0},
+		{"no=1\nend\n", 1},
+		{"a,1\nend\n", 0},
+		{"a=\nend\n", 1},
+		{"a\nend=\n", 2},
+		{"a=1,\nend\n", 1},
+		{"a=,1\nend\n", 1},
+		{"a=1,,2\nend\n", 1},
+		{"a=1=2\nend\n", 1},
+		{"a==1\nend\n", 1},
+		{"a=1;2\nend\n", 1},
+		{"a=100\nend\n", 1},
+		{"a=01\nend\n", 1},
+		{"a\nend,1\n", 3},
+		{"a\nend=1", 2},
+		{"a\nend=1\nx", 3},
+	} {
+		if bad := style.Read(c.text, api.Range{Min: -5, Max: 99}, isTaken); bad != c.want {
+			t.Errorf("%q: %d, not %d", c.text, bad, c.want)
+		}
+	}
+	var list []rows.Row
+	take := func(row rows.Row) bool {
+		list = append(list, row)
+		return true
+	}
+	style.Read("a=3,4\nb,5\nend\n", api.Range{Max: 9}, take)
+	if len(list) != 3 || !list[0].Is("a", 2) || !slices.Equal(list[0].Numbers, []int{3, 4}) || !list[1].Is("b,5", 0) || !list[2].Is(rows.End, 0) {
+		t.Error(list)
+	}
+}
